@@ -3,7 +3,11 @@
 from framenode.calls import DONE
 from framenode.calls import REFUSED
 from framenode.calls import cn_begin
+from framenode.calls import cn_fault
 from framenode.calls import cn_frame
+from framenode.calls import cn_get
+from framenode.calls import cn_set
+from framenode.calls import cn_state
 from framenode.calls import cn_take
 from framenode.calls import cn_tick
 
@@ -46,8 +50,36 @@ def read_take(node, reader):
     return cn_take(node)
 
 
+def read_get(node, reader):
+    index = reader.read_number()
+    return cn_get(node, index, reader.read_number())
+
+
+def read_set(node, reader):
+    index = reader.read_number()
+    sub = reader.read_number()
+    return cn_set(node, index, sub, reader.read_row())
+
+
+def read_fault(node, reader):
+    code = reader.read_number()
+    return cn_fault(node, code, reader.read_number())
+
+
+def read_state(node, reader):
+    return cn_state(node)
+
+
 # By the call's number; cn_begin isn't among them, for it has no node yet and stands first alone.
-CALLS = {1: read_frame, 2: read_tick, 3: read_take}
+CALLS = {
+    1: read_frame,
+    2: read_tick,
+    3: read_take,
+    4: read_get,
+    5: read_set,
+    6: read_fault,
+    7: read_state,
+}
 
 
 def answers(calls):

@@ -4,6 +4,9 @@ from framenode.little import number_of
 
 LINE_BYTES = 8
 MOST_LINES = 64
+TABLE_FIRST = 0x2000
+TABLE_LAST = 0x9FFF
+MOST_SUB = 255
 MAPS = 4
 OFF = 0x80000000
 IDENT = 0x7FF
@@ -38,6 +41,17 @@ def value_of(entries, index, sub):
     return entries[key_of(index, sub)].value
 
 
+# The entry, or None. A sub that isn't a byte would make the key of an entry at another index.
+def entry_at(entries, index, sub):
+    if not 0 <= sub <= MOST_SUB:
+        return None
+    return entries.get(key_of(index, sub))
+
+
+def is_table_index(index):
+    return TABLE_FIRST <= index <= TABLE_LAST
+
+
 def has_index(entries, index):
     return any([key >> 8 == index for key in entries])
 
@@ -63,7 +77,7 @@ def line_key(line):
 
 
 def is_line_right(line):
-    if not 0x2000 <= number_of(line[0:2]) <= 0x9FFF:
+    if not is_table_index(number_of(line[0:2])):
         return False
     if line[3] not in (1, 2, 4, 8):
         return False

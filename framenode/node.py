@@ -53,6 +53,13 @@ class Node:
     def send_fault(self, code, bit):
         bits = self.entries[key_of(FAULT_BITS, 0)]
         bits.value = bits.value | 1 | (1 << bit)
+        self.tell_fault(code)
+
+    def clear_faults(self):
+        self.entries[key_of(FAULT_BITS, 0)].value = 0
+        self.tell_fault(0)
+
+    def tell_fault(self, code):
         ident = value_of(self.entries, FAULT_IDENT, 0)
         if self.state != STOPPED and ident < OFF:
-            self.send(ident, filled(row_of(code, 2) + [bits.value], 8))
+            self.send(ident, filled(row_of(code, 2) + [value_of(self.entries, FAULT_BITS, 0)], 8))

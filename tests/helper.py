@@ -11,7 +11,20 @@ NODE = 5
 BEFORE_WORK = 0x7F
 AT_WORK = 5
 STOPPED = 4
+STATES = (BEFORE_WORK, AT_WORK, STOPPED)
 OFF = 0x80000000
+LEAST = -2147483648
+MOST = 2147483647
+
+# All that may and may not be done over the bus.
+RIGHTS = ("", "r", "w", "m", "rw", "rm", "wm", "rwm")
+
+# Entries of TABLE, as maps name them: index, sub, size.
+BYTE = (0x2000, 0, 1)
+TWO = (0x2000, 1, 2)
+FOUR = (0x2000, 2, 4)
+EIGHT = (0x2000, 3, 8)
+OTHER = (0x2002, 0, 1)
 
 
 def line(index, sub, size, rights, last=0):
@@ -108,6 +121,44 @@ class Bus:
             frame = self.take()
         return frames
 
+    def get(self, index, sub):
+        """The value's bytes, as many as its size says; None where there's none."""
+        raw = self.call(4, index, sub)
+        if raw == [-1]:
+            return None
+        assert len(raw) == 9 and raw[1 + raw[0]:] == [0] * (8 - raw[0]), raw
+        return raw[1:1 + raw[0]]
+
+    def put(self, index, sub, row):
+        """cn_set's answer: the device's own set, where `set` goes over the bus."""
+        answer = self.call(5, index, sub, len(row), *row)
+        assert len(answer) == 1, answer
+        return answer[0]
+
+    def put_sent(self, index, sub, row):
+        """What a cn_set that's done makes the node send."""
+        assert self.put(index, sub, row) == 0
+        return self.take_all()
+
+    def fault(self, code, bit):
+        answer = self.call(6, code, bit)
+        assert len(answer) == 1, answer
+        return answer[0]
+
+    def fault_sent(self, code, bit):
+        assert self.fault(code, bit) == 0
+        return self.take_all()
+
+    def state(self):
+        answer = self.call(7)
+        assert len(answer) == 1, answer
+        return answer[0]
+
+    def fill_row(self, count=32):
+        """So many answers of eight bytes, none of them taken."""
+        for at in range(count):
+            self.calls.extend([1, 0x600 + self.node, self.now, 8, 0x40, 0x00, 0x10, 0, 0, 0, 0, 0])
+
     def sent(self, ident, data=(), now=None):
         """What a frame that comes makes the node send."""
         assert self.frame(ident, data, now) == [0]
@@ -191,6 +242,48 @@ class Bus:
         codes = [self.set(index, at + 1, mapping(*key), 4) for at, key in enumerate(keys)]
         codes.append(self.set(index, 0, len(keys), 1))
         assert codes == [0] * len(codes), codes
+
+
+def going_bus(keys=(BYTE,), when=0xFF, least=0, often=0, work=True, now=0):
+    bus = Bus()
+    bus.going(0, keys, when, least, often)
+    if work:
+        assert bus.work(now) == []
+    return bus
+
+
+def rights_bus(size):
+    """A table with one entry of that size for each of RIGHTS, at 2000, by its place there."""
+    return Bus(table=table_of(*[line(0x2000, at, size, held) for at, held in enumerate(RIGHTS)]))
+
+
+def besides(node):
+    """Each entry besides the table's: index, sub, size, rights, what it has at first."""
+    rows = [
+        (0x1000, 0, 4, "r", 0),
+        (0x1001, 0, 1, "r", 0),
+        (0x1005, 0, 4, "rw", 0x80),
+        (0x1014, 0, 4, "rw", 0x80 + node),
+        (0x1016, 0, 1, "r", 2),
+        (0x1016, 1, 4, "rw", 0),
+        (0x1016, 2, 4, "rw", 0),
+        (0x1017, 0, 2, "rw", 0),
+    ]
+    for place in range(4):
+        rows += [
+            (0x1400 + place, 0, 1, "r", 2),
+            (0x1400 + place, 1, 4, "rw", 0x80000200 + 0x100 * place + node),
+            (0x1400 + place, 2, 1, "rw", 0xFF),
+            (0x1800 + place, 0, 1, "r", 5),
+            (0x1800 + place, 1, 4, "rw", 0x80000180 + 0x100 * place + node),
+            (0x1800 + place, 2, 1, "rw", 0xFF),
+            (0x1800 + place, 3, 2, "rw", 0),
+            (0x1800 + place, 5, 2, "rw", 0),
+        ]
+        for index in (0x1600 + place, 0x1A00 + place):
+            rows.append((index, 0, 1, "rw", 0))
+            rows += [(index, sub, 4, "rw", 0) for sub in range(1, 9)]
+    return rows
 
 
 def filled(data):

@@ -2,7 +2,7 @@
 
 import unittest
 
-from helper import Bus, NODE, begin, begin_calls, line, little, split, table_of
+from helper import Bus, NODE, begin, begin_calls, besides, line, little, split, table_of
 from framenode.bus import answers
 
 
@@ -151,34 +151,6 @@ class First(unittest.TestCase):
                 place = (index << 16) | (sub << 8) | (size * 8)
                 self.assertEqual(bus.set(0x1600, 1, place, 4), 0x06040041)
                 self.assertEqual(bus.set(0x1A00, 1, place, 4), 0x06040041)
-
-
-def besides(node):
-    rows = [
-        (0x1000, 0, 4, "r", 0),
-        (0x1001, 0, 1, "r", 0),
-        (0x1005, 0, 4, "rw", 0x80),
-        (0x1014, 0, 4, "rw", 0x80 + node),
-        (0x1016, 0, 1, "r", 2),
-        (0x1016, 1, 4, "rw", 0),
-        (0x1016, 2, 4, "rw", 0),
-        (0x1017, 0, 2, "rw", 0),
-    ]
-    for place in range(4):
-        rows += [
-            (0x1400 + place, 0, 1, "r", 2),
-            (0x1400 + place, 1, 4, "rw", 0x80000200 + 0x100 * place + node),
-            (0x1400 + place, 2, 1, "rw", 0xFF),
-            (0x1800 + place, 0, 1, "r", 5),
-            (0x1800 + place, 1, 4, "rw", 0x80000180 + 0x100 * place + node),
-            (0x1800 + place, 2, 1, "rw", 0xFF),
-            (0x1800 + place, 3, 2, "rw", 0),
-            (0x1800 + place, 5, 2, "rw", 0),
-        ]
-        for index in (0x1600 + place, 0x1A00 + place):
-            rows.append((index, 0, 1, "rw", 0))
-            rows += [(index, sub, 4, "rw", 0) for sub in range(1, 9)]
-    return rows
 
 
 if __name__ == "__main__":

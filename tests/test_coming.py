@@ -2,13 +2,8 @@
 
 import unittest
 
-from helper import AT_WORK, BEFORE_WORK, Bus, OFF, STOPPED, little
+from helper import AT_WORK, BEFORE_WORK, BYTE, Bus, EIGHT, FOUR, OFF, OTHER, STOPPED, TWO, little
 
-BYTE = (0x2000, 0, 1)
-TWO = (0x2000, 1, 2)
-FOUR = (0x2000, 2, 4)
-EIGHT = (0x2000, 3, 8)
-OTHER = (0x2002, 0, 1)
 FAULT = (0x85, [0x10, 0x82, 0x11, 0, 0, 0, 0, 0])
 
 

@@ -2,9 +2,7 @@
 
 import unittest
 
-from helper import AT_WORK, BEFORE_WORK, Bus, NODE, OFF, STOPPED, abort, little
-
-STATES = (BEFORE_WORK, AT_WORK, STOPPED)
+from helper import AT_WORK, BEFORE_WORK, Bus, NODE, OFF, STATES, STOPPED, abort, little
 
 
 def state_of(bus):

@@ -2,21 +2,7 @@
 
 import unittest
 
-from helper import AT_WORK, BEFORE_WORK, Bus, OFF, STOPPED
-
-BYTE = (0x2000, 0, 1)
-TWO = (0x2000, 1, 2)
-FOUR = (0x2000, 2, 4)
-EIGHT = (0x2000, 3, 8)
-OTHER = (0x2002, 0, 1)
-
-
-def going_bus(keys=(BYTE,), when=0xFF, least=0, often=0, work=True, now=0):
-    bus = Bus()
-    bus.going(0, keys, when, least, often)
-    if work:
-        assert bus.work(now) == []
-    return bus
+from helper import AT_WORK, BEFORE_WORK, BYTE, Bus, EIGHT, FOUR, OFF, OTHER, STOPPED, TWO, going_bus
 
 
 class WhenChanged(unittest.TestCase):
